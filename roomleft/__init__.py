@@ -1,0 +1,1 @@
+"""Roomleft: messages in bits, and the room that later editions find."""
