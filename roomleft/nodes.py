@@ -298,8 +298,6 @@ class BodyNode:
         if a > 1:
             return [(left, below + ((self, a - 1, number),))], None
         outer = NO_BODY if left == NO_BODY else left - number
-        if left != NO_BODY and outer < 0:
-            return [], None
         return self.inside.begin(number, below + ((self, self.INSIDE, outer),)), self.told
 
     def resume(self, left, below, a, b):

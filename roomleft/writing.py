@@ -62,7 +62,7 @@ class Draft:
         way = used_way(kind, thing)
         check(way is not None, path)
         if isinstance(way, Door):
-            check(len(thing) == 3 and is_filling(way, thing[1:]), path)
+            check(is_filling(way, thing[1:]), path)
         else:
             check(len(thing) == 2, path)
         self.pieces.append(way.word)
@@ -100,7 +100,7 @@ def check(is_right, path):
 
 def used_way(kind, thing):
     """The way or door of a choice whose name the tuple has, or None."""
-    if not isinstance(thing, tuple) or len(thing) == 0 or not isinstance(thing[0], str):
+    if not isinstance(thing, tuple) or len(thing) == 0:
         return None
     for way in kind.ways:
         if way.name == thing[0]:

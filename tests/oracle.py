@@ -5,6 +5,7 @@ A message is a tuple (bits, value, events, own): events is a tuple of (at, (path
 
 from itertools import product
 
+from roomleft.errors import BadBits, Left, TooFew
 from roomleft.kinds import Bits, Call, Choice, Door, Items, Nothing, Number, Room
 
 
@@ -186,3 +187,15 @@ class Beginnings:
             if start not in self.ends:
                 return "bad", size - 1
         return "few", self.ends[row] - len(row)
+
+
+def outcome(call):
+    """What a call of reading does, in the form of Beginnings.outcome."""
+    try:
+        return "value", call()
+    except BadBits as error:
+        return "bad", error.at
+    except TooFew as error:
+        return "few", error.due
+    except Left as error:
+        return "left", error.at

@@ -52,10 +52,17 @@ class FieldsTest(EditionsTest):
             Edition({"a": BIT, "b": Bits(3)}, "a", 1), Edition({"a": BIT}, "a", 1),
             Edition({"a": BIT, "c": Bits(2)}, "a", 1), Edition({"a": Call("b"), "b": Bits(2)}, "a", 1),
             Edition({"a": BIT, "b": Bits(2), "c": BIT}, "a", 1),
+            Edition({"a": BIT, "b": row(Bits(2))}, "a", 1),
+            Edition({"a": BIT, "b": Choice([Way("0", "x", Bits(2))])}, "a", 1),
         ):
             self.assertFalse(one == other)
             self.assertFalse(other == one)
             self.assertTrue(one != other)
+        kinds = [BIT, Bits(1), Items(BIT), Items(Bits(1)), Call("b"), row(BIT), Choice([Way("0", "a", BIT)])]
+        for at, kind in enumerate(kinds):
+            for number, other in enumerate(kinds):
+                same = Edition({"a": kind, "b": BIT}, "a", 1) == Edition({"a": other, "b": BIT}, "a", 1)
+                self.assertIs(same, at == number)
 
     def test_1_20_and_21_kinds(self):
         for many in (1, 2, 19, 20):

@@ -4,12 +4,12 @@ import random
 import unittest
 
 from roomleft.editions import Edition
-from roomleft.errors import BadBits, Left, LongBody, RoomTaken, TooFew
+from roomleft.errors import LongBody, RoomTaken
 from roomleft.kinds import Bits, Call, Choice, Door, Items, Nothing, Number, Part, Room, Row, Way
 from roomleft.reading import is_own, read
 from roomleft.readers import Reader, events
 from roomleft.writing import written
-from tests.oracle import Beginnings, Oracle, codes, rows
+from tests.oracle import Beginnings, Oracle, codes, outcome, rows
 
 
 class Maker:
@@ -195,19 +195,9 @@ class RandomEditionsTest(unittest.TestCase):
             self.assertEqual(events(edition, bits), list(events_told))
             self.assertIs(is_own(edition, bits), own)
         for row in rows(size)[::3]:
-            self.assertEqual(self.outcome(edition, row), told.outcome(row), row)
+            self.assertEqual(outcome(lambda: read(edition, row)), told.outcome(row), row)
             self.go(edition, row, told)
         return True
-
-    def outcome(self, edition, row):
-        try:
-            return "value", read(edition, row)
-        except BadBits as error:
-            return "bad", error.at
-        except TooFew as error:
-            return "few", error.due
-        except Left as error:
-            return "left", error.at
 
     def go(self, edition, row, told):
         reader = Reader(edition)

@@ -1,27 +1,16 @@
 import unittest
 
 from roomleft.editions import Edition
-from roomleft.errors import BadBits, Left, NoBits, NoKind, TooFew
+from roomleft.errors import NoBits, NoKind
 from roomleft.kinds import Bits, Call, Choice, Door, Items, Nothing, Number, Part, Room, Row, Way
 from roomleft.reading import is_own, read, read_first
 from roomleft.writing import written
-from tests.oracle import Beginnings, Oracle, codes, rows
+from tests.oracle import Beginnings, Oracle, codes, outcome, rows
 from tests.samples import sample_editions
 from tests.strange import strange_things
 
 BIT = Number(0, 1)
 THREE = Number(0, 2, 2)
-
-
-def outcome(call):
-    try:
-        return "value", call()
-    except BadBits as error:
-        return "bad", error.at
-    except TooFew as error:
-        return "few", error.due
-    except Left as error:
-        return "left", error.at
 
 
 def is_bits(thing):
