@@ -14,8 +14,9 @@ Every node has
 - owed(a, b): the least number of bits that this node itself still needs, less
   those of a node above it; NEVER if there is no such number.
 A node that others can stand above has, moreover, resume(left, below, a, b):
-the threads behind the end of the one above; and piece(a, b): the names that
-it gives to the path of what is above it.
+the threads behind the end of the one above; piece(a, b): the names that it
+gives to the path of what is above it; and is_spent(a, b): whether it ends as
+soon as the one above does.
 """
 
 from roomleft.codes import tight_code
@@ -132,6 +133,9 @@ class RunNode:
     def piece(self, a, b):
         return ("*",)
 
+    def is_spent(self, a, b):
+        return False
+
 
 class CountedNode:
     """An Items with a width: a bits of the count are left and b is the number of those that were read.
@@ -166,6 +170,9 @@ class CountedNode:
 
     def piece(self, a, b):
         return ("*",)
+
+    def is_spent(self, a, b):
+        return b == 0
 
 
 class ChoiceNode:
@@ -208,6 +215,9 @@ class ChoiceNode:
 
     def piece(self, a, b):
         return (self.told[b][1],)
+
+    def is_spent(self, a, b):
+        return True
 
 
 class RowNode:
@@ -261,6 +271,9 @@ class RowNode:
     def piece(self, a, b):
         return (self.names[a],)
 
+    def is_spent(self, a, b):
+        return a + 1 == len(self.names)
+
 
 class BodyNode:
     """The body of a door or room: a bits of the count are left, and b is the number of those that were read.
@@ -310,3 +323,10 @@ class BodyNode:
 
     def piece(self, a, b):
         return ()
+
+    def is_spent(self, a, b):
+        return False
+
+    def is_stepping_over(self, a):
+        """Whether the next bit is one of an unknown body, or of a rest."""
+        return self.told is None or a == self.AFTER

@@ -8,12 +8,18 @@ from roomleft.nodes import (
 
 
 class Plan:
-    """The kinds of an edition and, for each of them, the node that reads it."""
+    """The kinds of an edition and, for each of them, the node that reads it.
+
+    states and counts keep what was found out about the edition's bits, so that it is found out once.
+    """
 
     def __init__(self, named, count):
         self.named = named
         self.count = count
+        self.states = {}
+        self.counts = {}
         self.nodes = {}
+        self.shared = {}
         for name in named:
             self.node_of(name)
 
@@ -25,18 +31,25 @@ class Plan:
 
     def made(self, kind):
         if isinstance(kind, Nothing):
-            return NothingNode()
+            return self.same(("nothing",), NothingNode())
         if isinstance(kind, Number):
-            return number_node(kind)
+            return self.same(("number", kind.low, kind.high, kind.width), number_node(kind))
         if isinstance(kind, Bits):
-            return BitsNode(kind.many)
+            return self.same(("bits", kind.many), BitsNode(kind.many))
         if isinstance(kind, Call):
             return self.node_of(kind.name)
         if isinstance(kind, Items):
-            return items_node(self.made(kind.item), kind.width)
+            item = self.made(kind.item)
+            return self.same(("items", item, kind.width), items_node(item, kind.width))
         if isinstance(kind, Choice):
-            return ChoiceNode([self.way_made(way) for way in kind.ways])
-        return RowNode([self.part_made(part) for part in kind.parts])
+            ways = tuple([self.way_made(way) for way in kind.ways])
+            return self.same(("choice", ways), ChoiceNode(ways))
+        parts = tuple([self.part_made(part) for part in kind.parts])
+        return self.same(("row", parts), RowNode(parts))
+
+    def same(self, shape, node):
+        """The first node of this shape, so that equal places in unlike kinds are one place."""
+        return self.shared.setdefault(shape, node)
 
     def way_made(self, way):
         if isinstance(way, Door):
@@ -49,9 +62,8 @@ class Plan:
         return "", part.name, self.made(part.kind)
 
     def body_made(self, kind):
-        if kind is None:
-            return BodyNode(self.count, NothingNode(), False)
-        return BodyNode(self.count, self.made(kind), True)
+        inside = self.made(Nothing() if kind is None else kind)
+        return self.same(("body", inside, kind is not None), BodyNode(self.count, inside, kind is not None))
 
 
 def number_node(kind):

@@ -174,8 +174,20 @@ class NamesTest(unittest.TestCase):
                         if isinstance(node, ast.Assign) for target in node.targets}
         for where, node in nodes(ast.Attribute):
             if isinstance(node.ctx, ast.Load):
-                known = stored | names | class_values | METHODS | {"__init__"}
+                known = stored | names | class_values | METHODS | {"__init__", "__class__", "__name__"}
                 self.assertIn(node.attr, known, where)
+
+    def test_names_of_classes(self):
+        inside = set()
+        for where, node in nodes(ast.Attribute):
+            if node.attr == "__name__":
+                self.assertIsInstance(node.value, ast.Attribute, where)
+                self.assertEqual(node.value.attr, "__class__", where)
+                self.assertIsInstance(node.value.value, (ast.Name, ast.Attribute), where)
+                inside.add(id(node.value))
+        for where, node in nodes(ast.Attribute):
+            if node.attr == "__class__":
+                self.assertIn(id(node), inside, where)
 
     def test_methods_of_one_name_take_the_same(self):
         shapes = {}
