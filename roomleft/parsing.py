@@ -5,13 +5,18 @@ from roomleft.kinds import Bits, Call, Choice, Door, Items, Nothing, Number, Roo
 
 
 class Parse:
-    """Goes through the bits of one message and makes its value; afterwards own tells whether it is an own one."""
+    """Goes through the bits of one message and makes its value.
+
+    Afterwards own tells whether it is an own one, and passed has the numbers of
+    the bits that are stepped over: those of unknown bodies and of rests.
+    """
 
     def __init__(self, plan, text):
         self.plan = plan
         self.text = text
         self.at = 0
         self.own = True
+        self.passed = []
 
     def cut(self, many):
         """The next bits, which are read by this."""
@@ -80,10 +85,15 @@ class Parse:
 
     def filled(self, kind):
         """The pair of the value and the rest of a body, None being the kind of an unknown one."""
+        begin = self.at
         many = self.number(self.plan.count)
         end = self.at + many
-        value = None if kind is None else self.value(kind)
+        value = None
+        if kind is not None:
+            value = self.value(kind)
+            begin = self.at
         rest = self.cut(end - self.at)
+        self.passed.extend(list(range(begin, end)))
         if kind is None or rest != "":
             self.own = False
         return value, rest

@@ -39,6 +39,13 @@ def is_own(edition, bits, kind=None):
     return parse.own and used == len(bits)
 
 
+def passed_bits(edition, bits):
+    """The numbers of the bits of a message of the root kind that reading steps over, ascending."""
+    parse = Parse(edition.plan, bits)
+    parse.value(edition.plan.named[edition.root])
+    return parse.passed
+
+
 def first_end(node, bits):
     """The number of bits of the message with which the bits begin."""
     threads = first_threads(node)

@@ -169,6 +169,17 @@ class LeastFreeTest(ErrorsCase):
             inner=Choice([Way("0", "a", Items(BIG)), Way("1", "b", BIG)]))
         self.assertEqual(least_free(one), "0" + "00" + "0" * 16 + "0" * 60 + "00" + "11")
 
+    def test_the_nearest_of_several(self):
+        five = Number(0, 4)
+        one = edition(
+            root=Choice([Way("0", "a", Call("near")), Way("1", "b", Call("far"))]),
+            near=row(five, five, five, THREE), far=row(Bits(9), Number(0, 5, 3)),
+            other=Choice([Way("0", "a", Call("far")), Way("1", "b", Call("near"))]))
+        self.assertEqual(least_free(one), "0" + "00" * 3 + "11")
+        self.assertEqual(least_free(one, "other"), "1" + "00" * 3 + "11")
+        self.assertEqual(len(free_words(one, 9)), 27)
+        self.assertEqual(free_words(one, 9)[0], least_free(one))
+
     def test_many_kinds(self):
         letters = "abcdefghijklmnopqrs"
         kinds = {letter: row(*[Items(Call(chr(ord(letter) + 1)))] * 8) for letter in letters}
