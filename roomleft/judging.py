@@ -53,7 +53,7 @@ def sort_of(writer, reader, bits):
 
 
 def check_standings(one, other):
-    """Both editions must have few standings, and so must be what many they are together."""
+    """Raises TooMany where the standings of one edition, or those of both multiplied, are too many."""
     product = 1
     for edition in (one, other):
         states = read_states(edition)

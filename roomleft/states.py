@@ -17,7 +17,6 @@ class States:
         self.grammar = grammar
         self.firsts = [None]
         self.nexts = [END]
-        self.dues = [0]
         self.lacks = [None]
         self.met = {}
         self.moves = {}
@@ -36,7 +35,6 @@ class States:
     def new_state(self, symbol, state):
         self.firsts.append(symbol)
         self.nexts.append(state)
-        self.dues.append(self.grammar.least[symbol] + self.dues[state])
         later = self.lacks[state]
         if later is not None:
             later += self.grammar.least[symbol]

@@ -7,9 +7,9 @@ from roomleft.free import room_words, way_words
 from roomleft.judging import Verdict, alike_reading, judge, sort_of
 from roomleft.kinds import Bits, Call, Choice, Door, Items, Nothing, Number, Part, Room, Row, Way
 from roomleft.numbering import message_at
-from roomleft.reading import is_own, read
+from roomleft.reading import read
 from roomleft.states import many_standings, read_states, start_of
-from roomleft.steps import AddRoom, AddWay, TellBody, Widen, changed, inner_things, taken
+from roomleft.steps import AddRoom, AddWay, TellBody, changed, inner_things, taken
 from tests.lists import ErrorsCase, random_editions, some_editions
 from tests.oracle import Oracle, rows
 from tests.strange import strange_things
