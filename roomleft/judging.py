@@ -4,10 +4,10 @@ from roomleft.errors import BadBits, Left, NoOwn, TooFew, TooMany
 from roomleft.pairs import Pairs
 from roomleft.readers import events
 from roomleft.reading import is_own, passed_bits
-from roomleft.states import END, REFUSED, many_standings, own_states, read_states, start_of
+from roomleft.states import END, REFUSED, own_states, read_states, start_of
 from roomleft.steps import are_same
+from roomleft.streams import MOST_STANDINGS, standings
 
-MOST_STANDINGS = 20000
 # What the reader has behind a message of its own that ended earlier.
 OVER = -2
 
@@ -54,11 +54,7 @@ def sort_of(writer, reader, bits):
 
 def check_standings(one, other):
     """Raises TooMany where the standings of one edition, or those of both multiplied, are too many."""
-    product = 1
-    for edition in (one, other):
-        states = read_states(edition)
-        product *= many_standings(states, start_of(states, edition.root), MOST_STANDINGS)
-    if product > MOST_STANDINGS:
+    if standings(one) * standings(other) > MOST_STANDINGS:
         raise TooMany(MOST_STANDINGS)
 
 
