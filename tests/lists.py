@@ -4,11 +4,36 @@ import unittest
 
 from roomleft.editions import Edition
 from roomleft.errors import RoomError
+from roomleft.kinds import Bits, Call, Number, Part, Row
 from tests.maker import Maker
 from tests.oracle import Beginnings, Oracle
 from tests.samples import sample_editions
 
-LETTERS = "pqrstuvw"
+BIT = Number(0, 1)
+THREE = Number(0, 2, 2)
+
+
+def row(*kinds):
+    return Row([Part("pqrstuvw"[at], kind) for at, kind in enumerate(kinds)])
+
+
+def edition(count=3, **kinds):
+    return Edition(kinds, "root", count)
+
+
+def chain(many):
+    """An edition whose messages have so many bits, any ones: it has as many standings."""
+    kinds = {}
+    calls = []
+    for at in range(5):
+        letter = "abcde"[at]
+        inner = Bits(1) if at == 0 else Call("k" + "abcde"[at - 1])
+        digit = many // 8 ** at if at == 4 else many // 8 ** at % 8
+        kinds["k" + letter] = row(*[inner] * 8)
+        if digit:
+            kinds["p" + letter] = row(*[inner] * digit)
+            calls.append(Call("p" + letter))
+    return Edition({**kinds, "root": row(*calls)}, "root", 1)
 
 
 class ErrorsCase(unittest.TestCase):

@@ -9,6 +9,7 @@ from roomleft.kinds import Call, Choice, Nothing, Number, Part, Room, Row, Way
 from roomleft.reading import read
 from roomleft.readers import events
 from roomleft.steps import AddRoom, TellBody, taken
+from roomleft.tables import table
 from roomleft.weights import weight
 from roomleft.writing import written
 
@@ -39,6 +40,7 @@ class ExamplesTest(unittest.TestCase):
         verdict = judge(later, roomy)
         self.assertEqual([verdict.refused, verdict.short, verdict.in_step, verdict.stepped, verdict.other],
                          [None, None, "00000000", "00000001100110000", None])
+        self.assertEqual(table(later, roomy), [("car", "car", "alike"), ("sort", "sort", "alike")])
         self.assertEqual(judge(later, self.first).refused, "00000001100110000")
 
 

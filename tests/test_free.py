@@ -5,21 +5,11 @@ from roomleft.errors import BadBits, BadNumber, NoBits, NoKind, TooMany
 from roomleft.free import free_words, is_free, is_least_free, least_free, room_words, way_words
 from roomleft.kinds import Bits, Call, Choice, Door, Items, Nothing, Number, Part, Room, Row, Way
 from roomleft.readers import Reader
-from tests.lists import ErrorsCase, Listed, ascending, some_editions
+from tests.lists import BIT, THREE, ErrorsCase, Listed, ascending, edition, row, some_editions
 from tests.oracle import rows
 from tests.strange import strange_things
 
-BIT = Number(0, 1)
-THREE = Number(0, 2, 2)
 BIG = Number(-7, 2 ** 60 - 8)
-
-
-def row(*kinds):
-    return Row([Part("pqrstuvw"[at], kind) for at, kind in enumerate(kinds)])
-
-
-def edition(count=3, **kinds):
-    return Edition(kinds, "root", count)
 
 
 def first_refused(one, bits, kind):

@@ -1,30 +1,18 @@
-import random
 import unittest
 
 from roomleft.editions import Edition
-from roomleft.errors import BadBits, BadKind, BadNumber, Left, NoBits, NoOwn, NoStep, RoomError, TooFew, TooMany
-from roomleft.free import room_words, way_words
+from roomleft.errors import BadBits, BadNumber, Left, NoBits, NoOwn, TooFew, TooMany
 from roomleft.judging import Verdict, alike_reading, judge, sort_of
 from roomleft.kinds import Bits, Call, Choice, Door, Items, Nothing, Number, Part, Room, Row, Way
 from roomleft.numbering import message_at
 from roomleft.reading import read
-from roomleft.states import many_standings, read_states, start_of
-from roomleft.steps import AddRoom, AddWay, TellBody, changed, inner_things, taken
-from tests.lists import ErrorsCase, random_editions, some_editions
+from roomleft.steps import AddRoom, TellBody, taken
+from tests.lists import BIT, THREE, ErrorsCase, chain, edition, row, some_editions
 from tests.oracle import Oracle, rows
+from tests.pairs import random_pairs
 from tests.strange import strange_things
 
-BIT = Number(0, 1)
-THREE = Number(0, 2, 2)
 SORTS = ("refused", "short", "in step", "stepped", "other")
-
-
-def row(*kinds):
-    return Row([Part("pqrstuvw"[at], kind) for at, kind in enumerate(kinds)])
-
-
-def edition(count=3, **kinds):
-    return Edition(kinds, "root", count)
 
 
 def least_of(verdict):
@@ -79,91 +67,6 @@ class Sorts:
         if told == heard:
             return "in step"
         return "stepped" if {event for event in told if event[0] not in skipped} == heard else "other"
-
-
-def other_edition(luck, kinds, root, count):
-    """The same kinds with some of their ways, parts and counts changed; None if there is no such edition."""
-    made = {}
-    for name, kind in kinds.items():
-        if isinstance(kind, (Choice, Row)):
-            things = [thing for thing in [other_thing(luck, thing) for thing in inner_things(kind)] if thing is not None]
-            try:
-                kind = Choice(things) if isinstance(kind, Choice) else Row(things)
-            except BadKind:
-                pass
-        elif luck.random() < 0.2 and isinstance(kind, Items):
-            kind = Items(kind.item, luck.choice([None, 1, 2]))
-        made[name] = kind
-    try:
-        return Edition(made, root, luck.choice([1, 2, 3]) if luck.random() < 0.3 else count)
-    except RoomError:
-        return None
-
-
-def other_thing(luck, thing):
-    chance = luck.random()
-    if isinstance(thing, (Door, Room)) and chance < 0.4:
-        return changed(thing, None if chance < 0.3 else BIT)
-    if chance < 0.5:
-        return changed(thing, Number(0, luck.randint(1, 3), 2))
-    if chance < 0.55 and isinstance(thing, Way):
-        return changed(thing, Nothing())
-    return None if chance < 0.57 else thing
-
-
-def grown(luck, one):
-    """An edition with further unknown rooms and doors."""
-    for _ in range(luck.randint(1, 4)):
-        name = luck.choice(sorted(one.kinds))
-        kind = one.kinds[name]
-        step = None
-        if isinstance(kind, Row):
-            index = luck.randrange(len(kind.parts))
-            words = room_words(one, name, index, 6)
-            if words:
-                step = AddRoom(name, index, Room(luck.choice(words) + luck.choice(["", "", "1"]), luck.choice("hijk"), None))
-        elif isinstance(kind, Choice):
-            words = way_words(one, name, 6)
-            step = AddWay(name, Door(luck.choice(words), luck.choice("hijk"), None)) if words else None
-        one = taken_if_can_be(one, step)
-    return one
-
-
-def told(luck, one):
-    """An edition in which most of the unknown doors and rooms are known."""
-    names = sorted(one.kinds)
-    for name in names:
-        kind = one.kinds[name]
-        for inner in inner_things(kind) if isinstance(kind, (Choice, Row)) else ():
-            simple = luck.choice([Bits(1), THREE, Number(0, 2), Items(Bits(1), 1), Call(luck.choice(names)), Nothing()])
-            if inner.kind is None and luck.random() < 0.8:
-                one = taken_if_can_be(one, TellBody(name, inner.name, simple))
-    return one
-
-
-def taken_if_can_be(one, step):
-    try:
-        return one if step is None else taken(one, step)
-    except NoStep:
-        return one
-
-
-def random_pairs(seeds):
-    """A list of tuples (seed, writer, reader)."""
-    made = []
-    for seed, one in random_editions(seeds):
-        luck = random.Random(seed)
-        kinds, root = one.kinds, one.root
-        if luck.random() < 0.4:
-            kinds, root = {**kinds, "run": Items(Call(root), luck.choice([None, None, 2]))}, "run"
-        unknown = grown(luck, Edition(kinds, root, one.count))
-        known = told(luck, unknown)
-        made.extend([(seed, known, unknown), (seed, unknown, known), (seed, one, unknown)])
-        for base in (known, unknown):
-            other = other_edition(luck, base.kinds, base.root, base.count)
-            if other is not None:
-                made.extend([(seed, base, other), (seed, other, base), (seed, other, unknown)])
-    return made
 
 
 class VerdictTest(unittest.TestCase):
@@ -425,27 +328,9 @@ def is_like(told, heard):
 
 
 class BoundsTest(ErrorsCase):
-    def chain(self, many):
-        """An edition whose messages have so many bits, any ones: it has as many standings."""
-        kinds = {}
-        calls = []
-        for at in range(5):
-            letter = "abcde"[at]
-            inner = Bits(1) if at == 0 else Call("k" + "abcde"[at - 1])
-            digit = many // 8 ** at if at == 4 else many // 8 ** at % 8
-            kinds["k" + letter] = row(*[inner] * 8)
-            if digit:
-                kinds["p" + letter] = row(*[inner] * digit)
-                calls.append(Call("p" + letter))
-        kinds["root"] = row(*calls)
-        one = Edition(kinds, "root", 1)
-        states = read_states(one)
-        self.assertEqual(many_standings(states, start_of(states, "root"), 30000), many)
-        return one
-
     def test_one_edition(self):
         one = edition(root=BIT)
-        just, more = self.chain(20000), self.chain(20001)
+        just, more = chain(20000), chain(20001)
         self.assertEqual(judge(just, one), Verdict(None, "0" * 20000, None, None, None))
         self.assertEqual(judge(one, just), Verdict(None, "0", None, None, None))
         self.assertEqual(alike_reading(just, one), "0")
@@ -455,14 +340,14 @@ class BoundsTest(ErrorsCase):
             self.raises(TooMany(20000), call, more, more)
 
     def test_product(self):
-        hundred, two_hundred, one_more = self.chain(100), self.chain(200), self.chain(201)
+        hundred, two_hundred, one_more = chain(100), chain(200), chain(201)
         self.assertEqual(judge(two_hundred, hundred), Verdict(None, "0" * 200, None, None, None))
         self.assertEqual(alike_reading(hundred, two_hundred), "0" * 100)
         for call in (judge, alike_reading):
             self.raises(TooMany(20000), call, one_more, hundred)
             self.raises(TooMany(20000), call, hundred, one_more)
-        self.assertEqual(judge(self.chain(141), self.chain(141)), Verdict(None, None, "0" * 141, None, None))
-        self.raises(TooMany(20000), judge, self.chain(142), self.chain(142))
+        self.assertEqual(judge(chain(141), chain(141)), Verdict(None, None, "0" * 141, None, None))
+        self.raises(TooMany(20000), judge, chain(142), chain(142))
 
     def test_a_big_product(self):
         """The standings of one edition come with all of the other one ahead of the first end at one bit."""

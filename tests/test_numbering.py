@@ -1,24 +1,14 @@
 import unittest
 
-from roomleft.editions import Edition
 from roomleft.errors import BadBits, BadNumber, Left, NoBits, NoKind, NoOwn, TooFew
 from roomleft.kinds import Bits, Call, Choice, Door, Items, Nothing, Number, Part, Room, Row, Way
 from roomleft.numbering import message_at, number_of
 from roomleft.sizes import greatest_size, how_many
-from tests.lists import ErrorsCase, Listed, some_editions
+from tests.lists import BIT, ErrorsCase, Listed, edition, row, some_editions
 from tests.oracle import rows
 from tests.strange import strange_things
 
-BIT = Number(0, 1)
 RUN = Items(BIT)
-
-
-def row(*kinds):
-    return Row([Part("pqrstuvw"[at], kind) for at, kind in enumerate(kinds)])
-
-
-def edition(count=3, **kinds):
-    return Edition(kinds, "root", count)
 
 
 class ListsTest(ErrorsCase):

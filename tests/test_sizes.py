@@ -4,19 +4,10 @@ from roomleft.editions import Edition
 from roomleft.errors import BadNumber, NoKind
 from roomleft.kinds import Bits, Call, Choice, Door, Items, Nothing, Number, Part, Room, Row, Way
 from roomleft.sizes import greatest_size, how_many, least_size
-from tests.lists import ErrorsCase, Listed, some_editions
+from tests.lists import BIT, ErrorsCase, Listed, edition, row, some_editions
 from tests.strange import strange_things
 
 BIG = Number(-7, 2 ** 60 - 8)
-BIT = Number(0, 1)
-
-
-def row(*kinds):
-    return Row([Part("pqrstuvw"[at], kind) for at, kind in enumerate(kinds)])
-
-
-def edition(count=3, **kinds):
-    return Edition(kinds, "root", count)
 
 
 class ListsTest(unittest.TestCase):

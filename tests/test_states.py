@@ -1,23 +1,15 @@
 import unittest
 
-from roomleft.editions import Edition
 from roomleft.kinds import Bits, Call, Choice, Door, Items, Nothing, Number, Part, Room, Row, Way
 from roomleft.states import END, REFUSED, many_standings, own_states, read_states, start_of
-from tests.lists import Listed, some_editions
+from tests.lists import BIT, THREE, Listed, edition, some_editions
 from tests.minimal import standings_of
 from tests.oracle import rows
-
-BIT = Number(0, 1)
-THREE = Number(0, 2, 2)
 
 
 def standings(edition, name, most=20000):
     states = read_states(edition)
     return many_standings(states, start_of(states, name), most)
-
-
-def edition(count=3, **kinds):
-    return Edition(kinds, "root", count)
 
 
 class StatesTest(unittest.TestCase):

@@ -7,17 +7,11 @@ from roomleft.free import room_words, way_words
 from roomleft.kinds import Bits, Call, Choice, Door, Items, Nothing, Number, Part, Room, Row, Way
 from roomleft.reading import is_own, read
 from roomleft.steps import AddKind, AddRoom, AddWay, TellBody, Widen, steps_to, taken
-from tests.lists import ErrorsCase, Listed, random_editions
+from tests.lists import BIT, THREE, ErrorsCase, Listed, random_editions, row
 from tests.oracle import rows
 from tests.strange import strange_things
 
-BIT = Number(0, 1)
-THREE = Number(0, 2, 2)
 CLASSES = {AddKind: 2, AddWay: 2, AddRoom: 3, TellBody: 3, Widen: 3}
-
-
-def row(*kinds):
-    return Row([Part("pqrstuvw"[at], kind) for at, kind in enumerate(kinds)])
 
 
 def first():

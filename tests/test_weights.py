@@ -6,20 +6,10 @@ from roomleft.errors import NoKind
 from roomleft.free import least_free
 from roomleft.kinds import Bits, Call, Choice, Door, Items, Nothing, Number, Part, Room, Row, Way
 from roomleft.weights import is_complete, own_weight, tossed, weight
-from tests.lists import ErrorsCase, Listed, some_editions
+from tests.lists import BIT, THREE, ErrorsCase, Listed, edition, row, some_editions
 from tests.oracle import Oracle
 
-BIT = Number(0, 1)
-THREE = Number(0, 2, 2)
 BIG = Number(-7, 2 ** 60 - 8)
-
-
-def row(*kinds):
-    return Row([Part("pqrstuvw"[at], kind) for at, kind in enumerate(kinds)])
-
-
-def edition(count=3, **kinds):
-    return Edition(kinds, "root", count)
 
 
 def half(power):
