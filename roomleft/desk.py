@@ -52,7 +52,7 @@ class Desk:
 
     def tried(self, lines):
         """The list of the answers to some lines, behind which all is as it was."""
-        with self.trying():
+        with Trying(self):
             answers = [self.tell(line) for line in lines]
         return answers
 
