@@ -3,8 +3,9 @@
 import unittest
 
 from roomleft.editions import Edition
-from roomleft.errors import RoomError
+from roomleft.errors import BadBits, Left, RoomError, TooFew
 from roomleft.kinds import Bits, Call, Number, Part, Row
+from roomleft.reading import read
 from tests.maker import Maker
 from tests.oracle import Beginnings, Oracle
 from tests.samples import sample_editions
@@ -34,6 +35,15 @@ def chain(many):
             kinds["p" + letter] = row(*[inner] * digit)
             calls.append(Call("p" + letter))
     return Edition({**kinds, "root": row(*calls)}, "root", 1)
+
+
+def is_read(one, bits):
+    """Whether bits are a message that the edition reads."""
+    try:
+        read(one, bits)
+    except (BadBits, TooFew, Left):
+        return False
+    return True
 
 
 class ErrorsCase(unittest.TestCase):

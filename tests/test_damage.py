@@ -2,11 +2,11 @@ import unittest
 
 from roomleft.damage import dropped, put, turned, unseen
 from roomleft.editions import Edition
-from roomleft.errors import BadBits, BadNumber, Left, NoBits, TooFew, TooMany
+from roomleft.errors import BadNumber, NoBits, TooMany
 from roomleft.kinds import Call, Choice, Door, Items, Nothing, Number, Way
-from roomleft.reading import is_own, read
+from roomleft.reading import is_own
 from roomleft.sizes import greatest_size
-from tests.lists import BIT, THREE, ErrorsCase, Listed, chain, edition, row, some_editions
+from tests.lists import BIT, THREE, ErrorsCase, Listed, chain, edition, is_read, row, some_editions
 from tests.oracle import rows
 from tests.strange import strange_things
 
@@ -59,14 +59,6 @@ class DamageTest(ErrorsCase):
             self.raises(BadNumber("at"), call, "", 0)
             self.raises(BadNumber("at"), call, "0", 1)
         self.raises(BadNumber("at"), put, "", 1, "0")
-
-
-def is_read(one, bits):
-    try:
-        read(one, bits)
-    except (BadBits, TooFew, Left):
-        return False
-    return True
 
 
 def first_unseen(one, bits):

@@ -7,7 +7,7 @@ from roomleft.kinds import Bits, Call, Choice, Door, Items, Nothing, Number, Par
 from roomleft.numbering import message_at
 from roomleft.reading import read
 from roomleft.steps import AddRoom, TellBody, taken
-from tests.lists import BIT, THREE, ErrorsCase, chain, edition, row, some_editions
+from tests.lists import BIT, THREE, ErrorsCase, chain, edition, is_read, row, some_editions
 from tests.oracle import Oracle, rows
 from tests.pairs import random_pairs
 from tests.strange import strange_things
@@ -18,14 +18,6 @@ SORTS = ("refused", "short", "in step", "stepped", "other")
 def least_of(verdict):
     """A dict of the sorts to the least messages."""
     return dict(zip(SORTS, (verdict.refused, verdict.short, verdict.in_step, verdict.stepped, verdict.other)))
-
-
-def reads(one, bits):
-    try:
-        read(one, bits)
-    except (BadBits, TooFew, Left):
-        return False
-    return True
 
 
 class Skips(Oracle):
@@ -385,7 +377,7 @@ class AlikeReadingTest(unittest.TestCase):
     def least(self, one, other, most):
         for size in range(most + 1):
             for bits in rows(size):
-                if reads(one, bits) != reads(other, bits):
+                if is_read(one, bits) != is_read(other, bits):
                     return bits
         return None
 
@@ -400,7 +392,7 @@ class AlikeReadingTest(unittest.TestCase):
                 unlike += 1
             elif found is not None:
                 self.assertGreater(len(found), 9)
-                self.assertNotEqual(reads(one, found), reads(other, found))
+                self.assertNotEqual(is_read(one, found), is_read(other, found))
         self.assertGreater(unlike, 30)
 
     def test_other_kinds_that_read_the_same(self):
