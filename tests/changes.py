@@ -114,10 +114,32 @@ def changed_pairs(seeds):
             changes = Changes(luck, cut=True)
             kinds = {name: changes.named(kind) for name, kind in one.kinds.items()}
             if writer is not None:
-                kinds = {**writer.kinds, **kinds}
-                reader = made_or_none(kinds, writer.root, 5)
+                kinds, root = {**writer.kinds, **kinds}, writer.root
+                if turn % 2:
+                    kinds, root = renamed(kinds, root, luck)
+                reader = made_or_none(kinds, root, 5)
                 made.extend([] if reader is None else [(seed, writer, reader)])
     return made
+
+
+def renamed(kinds, root, luck):
+    """The same kinds under other names, some of which other kinds had."""
+    others = sorted(kinds)
+    luck.shuffle(others)
+    names = dict(zip(sorted(kinds), others))
+
+    def inside(kind):
+        if isinstance(kind, Call):
+            return Call(names[kind.name])
+        if isinstance(kind, Items):
+            return Items(inside(kind.item), kind.width)
+        if isinstance(kind, Choice):
+            return Choice([changed(way, inside(way.kind)) for way in kind.ways])
+        if isinstance(kind, Row):
+            return Row([changed(part, inside(part.kind)) for part in kind.parts])
+        return kind
+
+    return {names[name]: inside(kind) for name, kind in kinds.items()}, names[root]
 
 
 def made_or_none(kinds, root, count):

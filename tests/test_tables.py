@@ -297,6 +297,34 @@ class TableTest(unittest.TestCase):
         self.assertFalse(check_table(let, let, [("a", "a", "alike"), ("b", "b", "let")] + told[2:]))
         self.assertFalse(check_table(let, let, told[:3] + [("root", "root", "let")]))
 
+    def test_other_names_on_either_side(self):
+        """What is alike under some names does for what is let under the same ones alone."""
+        inside = Choice([Way("0", "x", BIT)])
+        writer = edition(root=row(Call("one"), Call("door")), one=inside, door=Choice([Way("0", "n", Nothing()), Door("1", "d", Call("one"))]))
+        reader = edition(root=row(Call("two"), Call("gate")), two=inside, gate=Choice([Way("0", "n", Nothing()), Door("1", "d", Call("two"))]))
+        told = [("door", "gate", "alike"), ("one", "two", "alike"), ("root", "root", "alike")]
+        self.assertEqual(table(writer, reader), told)
+        self.assertTrue(check_table(writer, reader, told))
+        self.assertTrue(check_table(writer, reader, told + [("one", "two", "let")]))
+        twice = edition(root=reader.kinds["root"], two=inside, more=inside, gate=Choice([Way("0", "n", Nothing()), Door("1", "d", Call("more"))]))
+        told = [("door", "gate", "alike"), ("one", "more", "let"), ("one", "two", "alike"), ("root", "root", "alike")]
+        self.assertEqual(table(writer, twice), told)
+        self.assertFalse(check_table(writer, twice, told[:1] + told[2:]))
+        told = [("gate", "door", "alike"), ("more", "one", "let"), ("root", "root", "alike"), ("two", "one", "alike")]
+        self.assertEqual(table(twice, writer), told)
+        self.assertFalse(check_table(twice, writer, told[:1] + told[2:]))
+
+    def test_many_nested_kinds(self):
+        """Each of twenty kinds calls the next one eight times."""
+        names = "abcdefghijklmnopqrst"
+        kinds = {name: row(*[Call(later)] * 8) for name, later in zip(names, names[1:])}
+        one = Edition({**kinds, "t": THREE}, "a", 1)
+        other = Edition({**kinds, "t": Number(0, 3)}, "a", 1)
+        told = [(name, name, "alike") for name in names[:-1]]
+        self.assertEqual([table(one, one), table(one, other), table(other, one)], [told, told, None])
+        self.assertTrue(check_table(one, other, told))
+        self.assertFalse(check_table(other, one, told))
+
     def test_doors(self):
         def choice(*ways):
             return edition(root=Choice([Way("0", "n", Nothing())] + list(ways)))
