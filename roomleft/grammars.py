@@ -14,7 +14,7 @@ from roomleft.codes import how_many_integers, tight_code
 from roomleft.kinds import Bits, Call, Choice, Door, Nothing, Number, Room, Row
 
 BIT = 0
-# A longer line has more standings than are ever counted, so it need not be told from equal ones.
+# A longer line has more standings than are ever counted; just same_standing must tell it from equal ones.
 LONGEST = 20000
 
 
@@ -33,6 +33,7 @@ class Grammar:
         self.lines = {}
         self.tails = {}
         self.fitted = {}
+        self.has_folded = False
         self.symbol((), ())
 
     def symbol(self, zero, one):
@@ -94,6 +95,7 @@ class Grammar:
     def folded(self, line):
         if len(line) <= LONGEST:
             return line
+        self.has_folded = True
         return (self.symbol(self.behind(line, 0), self.behind(line, 1)),)
 
     def with_word(self, line, word, target):

@@ -1,13 +1,15 @@
 """What is due at each point of reading: a STATE is a number that stands for a line of symbols.
 
 END is the state behind a whole message, REFUSED that behind a bit that is refused. Any other
-one is a symbol with the state behind it, so states that read the same bits have one number.
+one is a symbol with the state behind it, so states that read the same bits have one number
+(where no line is folded).
 """
 
 from roomleft.grammars import Grammar, sooner
 
 END = 0
 REFUSED = -1
+MOST_PAIRS = 50000
 
 
 class States:
@@ -51,6 +53,32 @@ class States:
     def refusal(self, state):
         """The least number of bits of which this state refuses the last one and no other; None if there is none."""
         return self.lacks[state]
+
+    def go_on_alike(self, one, other):
+        """Whether two states read the same bits.
+
+        Where lines are folded, unlike states can do so, too: what must be the same behind them
+        is then gone through, as long as no more than MOST_PAIRS pairs of states come up.
+        """
+        if not self.grammar.has_folded:
+            return one == other
+        leaders = {}
+        pairs = [(one, other)]
+        while pairs != [] and len(leaders) <= MOST_PAIRS:
+            one, other = [leader_of(leaders, state) for state in pairs.pop()]
+            if one != other:
+                if min(one, other) <= END:
+                    return False
+                leaders[one] = other
+                pairs.extend([(self.move(one, bit), self.move(other, bit)) for bit in (0, 1)])
+        return pairs == []
+
+
+def leader_of(leaders, state):
+    """The state that stands for all those that must be the same as this one."""
+    while state in leaders:
+        state = leaders[state]
+    return state
 
 
 def read_states(edition):

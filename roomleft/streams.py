@@ -29,7 +29,7 @@ def read_all(edition, bits):
 def same_standing(edition, one, other):
     """Whether two rows of bits lead to one standing of a stream."""
     state = state_behind(edition, one)
-    return state == state_behind(edition, other)
+    return read_states(edition).go_on_alike(state, state_behind(edition, other))
 
 
 def state_behind(edition, bits):

@@ -126,6 +126,34 @@ class SameStandingTest(ErrorsCase):
         self.assertFalse(same_standing(one, "", "1"))
         self.assertFalse(same_standing(edition(root=Bits(2)), "0", ""))
 
+    def test_long_messages_that_are_made_in_unlike_ways(self):
+        eight = {"a": row(*[Bits(8)] * 8), "b": row(*[Call("a")] * 8), "c": row(*[Call("b")] * 8)}
+        big = [Call("c")] * 5
+
+        def both(kind, other):
+            return edition(1, root=Choice([Way("0", "x", Call("f")), Way("1", "y", Call("g"))]), f=kind, g=other, **eight)
+
+        one = both(row(*big, Bits(1)), row(BIT, *big))
+        for first, second, expected in [("0", "1", True), ("00", "11", True), ("0" * 5, "1" * 5, True), ("00", "1", False), ("", "0", False),
+                                        ("0" + "01" * 1000, "1" + "11" * 1000, True), ("0" + "01" * 1000, "1" + "11" * 999, False),
+                                        ("0" * 20482, "1" * 20482, True), ("0" * 20481, "1" * 20482, False), ("0" * 20480, "1" * 20480, True)]:
+            self.assertIs(same_standing(one, first, second), expected, (len(first), len(second)))
+        self.raises(TooMany(20000), standings, one)
+        for kind, other in [(row(*big, BIT), row(Number(0, 1, 2), *big)), (row(*big, BIT), row(*big, Number(0, 2))),
+                            (row(*big, THREE), row(Bits(2), *big)), (row(THREE, *big), row(*big, THREE))]:
+            self.assertIs(same_standing(both(kind, other), "0", "1"), False)
+            self.assertIs(same_standing(both(other, kind), "0", "1"), False)
+        self.assertIs(same_standing(both(row(THREE, *big), row(*big, Bits(2))), "0" + "00", "1" + "11"), True)
+
+    def test_very_long_messages(self):
+        names = "abcdefghijklmnopqrst"
+        kinds = {name: row(*[Call(later)] * 8) for name, later in zip(names, names[1:])}
+        one = Edition({**kinds, "t": THREE}, "a", 1)
+        self.assertIs(same_standing(one, "00", "01"), True)
+        self.assertIs(same_standing(one, "0", "1"), False)
+        self.assertIs(same_standing(one, "00", ""), False)
+        self.assertIs(same_standing(one, "0001" * 1000, "1001" * 1000), True)
+
     def test_errors(self):
         one = edition(root=THREE)
         for thing in no_bits():
